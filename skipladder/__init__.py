@@ -1,0 +1,1 @@
+"""Skipladder: numbers in order, found by ladders of levels."""
