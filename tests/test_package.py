@@ -7,7 +7,7 @@ import re
 import unittest
 
 import skipladder
-from skipladder import blocks, errors
+from skipladder import blocks, errors, ladder, parts
 
 FOLDER = os.path.dirname(skipladder.__file__)
 
@@ -19,6 +19,24 @@ BLOCKS = {
     "thinned": ["width", "level", "row"],
     "tall": ["width", "high", "before", "number"],
 }
+LADDER = {
+    "__init__": ["width", "high"],
+    "put": ["number"],
+    "take": ["number"],
+    "has": ["number"],
+    "row": [],
+    "level": ["level"],
+    "ahead": ["level", "number"],
+    "trail": ["number"],
+    "below": ["number"],
+    "above": ["number"],
+    "place": ["number"],
+    "at": ["place"],
+    "way": ["place"],
+    "stretch": ["low", "high"],
+    "counted": ["low", "high"],
+}
+PARTS = {"cut": ["ladder", "number"], "poured": ["ladder", "other"]}
 
 
 def read(name):
@@ -41,14 +59,24 @@ class Interface(unittest.TestCase):
             self.assertEqual(getattr(errors, name).__module__, "skipladder.errors")
 
     def test_the_functions_are_defined_in_their_file(self):
-        names = defined("blocks.py", ast.FunctionDef)
-        for name in BLOCKS:
-            self.assertIn(name, names)
+        for file, listed in (("blocks.py", BLOCKS), ("parts.py", PARTS)):
+            names = defined(file, ast.FunctionDef)
+            for name in listed:
+                self.assertIn(name, names)
 
     def test_the_functions_have_the_arguments_of_the_interface(self):
-        for name, arguments in BLOCKS.items():
-            told = inspect.signature(getattr(blocks, name)).parameters
-            self.assertEqual(list(told), arguments)
+        for module, listed in ((blocks, BLOCKS), (parts, PARTS)):
+            for name, arguments in listed.items():
+                told = inspect.signature(getattr(module, name)).parameters
+                self.assertEqual(list(told), arguments)
+
+    def test_the_ladder_is_defined_in_its_file_with_each_method_in_its_body(self):
+        self.assertIn("Ladder", defined("ladder.py", ast.ClassDef))
+        self.assertEqual(ladder.Ladder.__module__, "skipladder.ladder")
+        for name, arguments in LADDER.items():
+            self.assertIn(name, vars(ladder.Ladder))
+            told = inspect.signature(vars(ladder.Ladder)[name]).parameters
+            self.assertEqual(list(told)[1:], arguments, name)
 
 
 class Form(unittest.TestCase):
